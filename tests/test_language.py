@@ -1,0 +1,117 @@
+"""The package keeps to the part of Python that it is to be written in (the rules that a plain look can see)."""
+
+import ast
+import builtins
+import re
+import unittest
+from pathlib import Path
+
+FOLDER = Path(__file__).resolve().parent.parent / "weightrooms"
+
+PYTHONS_OWN = set(
+    """len range enumerate zip min max sum abs sorted reversed int str bool bytes list tuple dict set isinstance ord
+    repr any all divmod Exception ValueError TypeError KeyError IndexError LookupError ZeroDivisionError
+    ArithmeticError OverflowError RuntimeError NotImplementedError AttributeError StopIteration""".split()
+)
+UNSEEN = re.compile(
+    r"\b(type|typing|typing_extensions|enum|Enum|IntEnum|StrEnum|Flag|IntFlag|Generic|Protocol|ABC|ABCMeta|namedtuple"
+    r"|NamedTuple|TypedDict|TYPE_CHECKING|abstractmethod)\b|dataclass|overload|contextmanager"
+)
+UNDERSCORED = {"__init__", "__eq__", "__repr__", "__str__", "__len__"}
+BARRED = (
+    ast.With, ast.AsyncWith, ast.Match, ast.Global, ast.Nonlocal, ast.Yield, ast.YieldFrom, ast.AsyncFunctionDef,
+    ast.AsyncFor, ast.Await, ast.GeneratorExp, ast.NamedExpr, ast.Div, ast.Import,
+)
+PLAIN_TOP = (ast.ImportFrom, ast.FunctionDef, ast.ClassDef, ast.Assign)
+
+
+def files():
+    """Each file of the package, as its path, text and tree."""
+    for path in sorted(FOLDER.glob("*.py")):
+        text = path.read_text(encoding="utf-8")
+        yield path, text, ast.parse(text)
+
+
+def named(node):
+    """The names that a node of the tree speaks of or gives."""
+    if isinstance(node, ast.Name):
+        return [node.id]
+    if isinstance(node, ast.arg):
+        return [node.arg]
+    if isinstance(node, ast.Attribute):
+        return [node.attr]
+    if isinstance(node, (ast.FunctionDef, ast.ClassDef)):
+        return [node.name]
+    return []
+
+
+class Language(unittest.TestCase):
+    def each_node(self):
+        for path, _, tree in files():
+            for node in ast.walk(tree):
+                yield f"{path.name}:{getattr(node, 'lineno', 0)}", node
+
+    def test_only_plain_files_lie_in_the_package(self):
+        names = [path.name for path in FOLDER.iterdir() if path.name != "__pycache__"]
+        self.assertIn("__init__.py", names)
+        for name in names:
+            self.assertRegex(name, r"\A(__init__|[a-z][a-z0-9_]*)\.py\Z")
+            self.assertNotRegex(name, r"\A(law_|test|site|conftest)")
+
+    def test_signs_sizes_and_words(self):
+        for path, text, _ in files():
+            self.assertRegex(text, r"\A[ -~\n]*\Z", path.name)
+            self.assertIsNone(UNSEEN.search(text), path.name)
+            self.assertLessEqual(len(text.splitlines()), 400, path.name)
+            self.assertLessEqual(max(len(row) for row in text.splitlines()), 120, path.name)
+
+    def test_functions_are_short_and_plain(self):
+        for where, node in self.each_node():
+            if isinstance(node, ast.FunctionDef):
+                self.assertLessEqual(node.end_lineno - node.lineno + 1, 40, where)
+                self.assertEqual(node.decorator_list, [], where)
+                self.assertEqual((node.args.vararg, node.args.kwarg, node.args.posonlyargs), (None, None, []), where)
+
+    def test_the_top_of_a_file(self):
+        for path, _, tree in files():
+            self.assertIsNotNone(ast.get_docstring(tree), path.name)
+            bound = []
+            for row in tree.body[1:]:
+                self.assertIsInstance(row, PLAIN_TOP, f"{path.name}:{row.lineno}")
+                if isinstance(row, ast.ImportFrom):
+                    self.assertRegex(row.module, r"\Aweightrooms\.[a-z]+\Z", path.name)
+                    self.assertTrue(all(name.asname is None and name.name != "*" for name in row.names), path.name)
+                    bound += [name.name for name in row.names]
+                elif isinstance(row, ast.Assign):
+                    bound += [target.id for target in row.targets]
+                else:
+                    bound.append(row.name)
+            self.assertEqual(len(bound), len(set(bound)), path.name)
+
+    def test_no_barred_forms(self):
+        for where, node in self.each_node():
+            self.assertNotIsInstance(node, BARRED, where)
+            if isinstance(node, ast.Constant):
+                self.assertNotIsInstance(node.value, (float, complex), where)
+                self.assertFalse(isinstance(node.value, str) and "%" in node.value, where)
+            if isinstance(node, (ast.For, ast.While)):
+                self.assertEqual(node.orelse, [], where)
+            if isinstance(node, ast.Compare):
+                for sign, right in zip(node.ops, node.comparators):
+                    if isinstance(sign, (ast.Is, ast.IsNot)):
+                        self.assertIn(getattr(right, "value", 0), (None, True, False), where)
+
+    def test_names(self):
+        barred = set(dir(builtins)) - PYTHONS_OWN
+        for where, node in self.each_node():
+            for name in named(node):
+                if name not in UNDERSCORED:
+                    self.assertRegex(name, r"\A[A-Za-z][A-Za-z0-9_]*\Z", where)
+                    self.assertNotIn(name, barred, where)
+            given = isinstance(node, ast.Name) and not isinstance(node.ctx, ast.Load)
+            if given or isinstance(node, (ast.arg, ast.FunctionDef, ast.ClassDef)):
+                self.assertNotIn(named(node)[0], PYTHONS_OWN, where)
+
+
+if __name__ == "__main__":
+    unittest.main()

@@ -1,0 +1,1 @@
+"""Weightrooms: boxes within boxes by weights, in whole numbers."""
