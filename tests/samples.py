@@ -2,6 +2,8 @@
 
 from fractions import Fraction
 
+from weightrooms.errors import NoBox, NoWeights, TooMany
+
 BIG = 10 ** 30 - 1
 PRIME = 10 ** 29 + 319
 
@@ -24,6 +26,22 @@ NO_PARTS = [
 
 # None of these may be wide or high.
 NO_SIDES = NO_PARTS + [0, -1, -BIG, (0, 1), (-1, 1), (-1, BIG)]
+
+WAYS = ["across", "down"]
+NO_WAYS = ["", "Across", "ACROSS", "across ", " down", "downs", "down\n", "left", "a", "acrossdown"]
+NO_WEIGHT = [0, -1, -BIG, True, False, None, "", "1", b"1", [], [1], (), (1, 1), {}, set(), object()]
+NO_WEIGHTS = [
+    [], (), (1,), (1, 2), None, "", "1", "12", b"12", 0, 1, 3, -1, BIG, True, False,
+    {}, {1: 2}, {1, 2}, range(1, 3), object(), list, SQUARE,
+]
+
+# Lists of weights of all sorts: alike, doubled on and on, great ones among small ones, and of thirty figures.
+WEIGHTS = [
+    [1], [7], [BIG], [1, 1], [3, 1], [1, 3], [1, BIG], [2, 2, 2], [3, 1, 2], [1, 100, 1], [6, 6, 4, 3, 2, 2, 1],
+    [1] * 8, [5] * 40, [2 ** at for at in range(12)], [2 ** at for at in range(39, -1, -1)],
+    [1, 1, 1000, 1, 1, 1, 999, 1], [1, BIG] * 20, [BIG - at * PRIME // 50 for at in range(40)],
+    [at % 7 + 1 for at in range(40)], [at * at % 41 + 1 for at in range(40)],
+]
 
 
 def with_part(parts, at, part):
@@ -56,3 +74,103 @@ def pair(number):
 def number(one):
     """A fraction of the program as a number of the plain reckoning."""
     return Fraction(one[0], one[1])
+
+
+def plainly(box):
+    """The four numbers of a box, of the plain reckoning."""
+    return tuple(number(part) for part in box)
+
+
+def lists_with_no_weight():
+    """Lists one of whose things is no weight, at each place."""
+    for thing in NO_WEIGHT:
+        for many in (1, 2, 3, 40, 41, 60):
+            for at in sorted({0, many // 2, many - 1}):
+                things = [5] * many
+                things[at] = thing
+                yield things
+
+
+def nested_deep(deep, wrap):
+    """A thing that lies so deep within others, wrapped each time anew."""
+    thing = ()
+    for _ in range(deep):
+        thing = wrap(thing)
+    return thing
+
+
+def chain(numbers, ways=("across", "down")):
+    """A tree as deep as can be: each number ahead of all behind it, the ways by turns."""
+    tree = numbers[-1]
+    for step, figure in enumerate(reversed(numbers[:-1])):
+        tree = (ways[step % len(ways)], (figure, tree))
+    return tree
+
+
+def chain_back(numbers, ways=("across", "down")):
+    """A tree as deep as can be: each number behind all ahead of it, the ways by turns."""
+    tree = numbers[0]
+    for step, figure in enumerate(numbers[1:]):
+        tree = (ways[step % len(ways)], (tree, figure))
+    return tree
+
+
+def some_tree(dice, numbers, most=4):
+    """A tree of the numbers in this order, up to so many trees at a place, as the die falls."""
+    if len(numbers) == 1:
+        return numbers[0]
+    many = dice.randint(2, min(most, len(numbers)))
+    cuts = [0] + sorted(dice.sample(range(1, len(numbers)), many - 1)) + [len(numbers)]
+    trees = [some_tree(dice, numbers[begin:end], most) for begin, end in zip(cuts, cuts[1:])]
+    return (dice.choice(WAYS), tuple(trees))
+
+
+def mixed(dice, things):
+    """The things in an order as the die falls."""
+    return dice.sample(list(things), len(things))
+
+
+def standing_in(tree):
+    """All that stands in a tree, in order."""
+    if not isinstance(tree, tuple):
+        return [tree]
+    return [thing for part in tree[1] for thing in standing_in(part)]
+
+
+def plain_boxes(room, weights, tree):
+    """The boxes by a tree, reckoned plainly, as a dict by what stands in the tree."""
+    if not isinstance(tree, tuple):
+        return {tree: tuple(pair(part) for part in room)}
+    left, top, wide, high = room
+    whole = sum(weights[thing] for thing in standing_in(tree))
+    boxes = {}
+    for part in tree[1]:
+        share = Fraction(sum(weights[thing] for thing in standing_in(part)), whole)
+        if tree[0] == "across":
+            boxes.update(plain_boxes((left, top, wide * share, high), weights, part))
+            left += wide * share
+        else:
+            boxes.update(plain_boxes((left, top, wide, high * share), weights, part))
+            top += high * share
+    return boxes
+
+
+def check_room_refusals(case, ask):
+    """Hold a deed that is asked of a room and weights to NoBox, NoWeights, TooMany, in this order."""
+    for thing in no_boxes():
+        with case.subTest(room=thing), case.assertRaises(NoBox):
+            ask(thing, [1, 2])
+    for thing in list(NO_WEIGHTS) + list(lists_with_no_weight()):
+        with case.subTest(weights=thing), case.assertRaises(NoWeights):
+            ask(WIDE, thing)
+        with case.subTest(weights=thing), case.assertRaises(NoBox):
+            ask(None, thing)
+    for many in (41, 42, 90):
+        with case.subTest(many=many), case.assertRaises(TooMany):
+            ask(WIDE, [1] * many)
+        with case.subTest(many=many), case.assertRaises(NoBox):
+            ask(list(SQUARE), [1] * many)
+    weights = [3, True, 2]
+    with case.assertRaises(NoWeights):
+        ask(WIDE, weights)
+    case.assertEqual(repr(weights), "[3, True, 2]")

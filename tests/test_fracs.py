@@ -7,7 +7,7 @@ from fractions import Fraction
 
 from samples import BIG, NO_PARTS, PRIME, pair
 from weightrooms.errors import NoFraction
-from weightrooms.fracs import added, fraction, is_fraction, is_less, lessened, over, times
+from weightrooms.fracs import added, fraction, greatest_of, is_fraction, is_less, lessened, over, times
 
 FRACTIONS = [
     (0, 1), (1, 1), (-1, 1), (1, 2), (-1, 2), (2, 3), (-3, 2), (7, 1), (-12, 35), (6, 35),
@@ -141,6 +141,17 @@ class Less(unittest.TestCase):
         for one in FRACTIONS:
             for other in FRACTIONS:
                 self.assertIs(is_less(one, other), Fraction(*one) < Fraction(*other), (one, other))
+
+
+class Greatest(unittest.TestCase):
+    def test_of_one_and_of_several(self):
+        for one in FRACTIONS:
+            self.assertEqual(greatest_of([one]), one)
+        for at in range(len(FRACTIONS)):
+            things = FRACTIONS[at:] + FRACTIONS[:at]
+            self.assertEqual(greatest_of(things), (BIG, 1))
+            self.assertEqual(greatest_of(things[:3]), pair(max(Fraction(*one) for one in things[:3])))
+        self.assertEqual(greatest_of([(-1, 2), (-1, 3), (-2, 3)]), (-1, 3))
 
 
 class Known(unittest.TestCase):

@@ -17,6 +17,12 @@ UNSEEN = re.compile(
     r"\b(type|typing|typing_extensions|enum|Enum|IntEnum|StrEnum|Flag|IntFlag|Generic|Protocol|ABC|ABCMeta|namedtuple"
     r"|NamedTuple|TypedDict|TYPE_CHECKING|abstractmethod)\b|dataclass|overload|contextmanager"
 )
+METHODS = set(
+    """append clear copy count endswith extend find get index insert isalnum isalpha isdigit islower isspace isupper
+    items join keys ljust lower lstrip partition pop remove replace reverse rfind rjust rpartition rsplit rstrip
+    setdefault split splitlines startswith strip update upper values zfill bit_length add discard""".split()
+)
+KEYWORDS = {"sorted": {"key", "reverse"}, "min": {"key", "default"}, "max": {"key", "default"}}
 UNDERSCORED = {"__init__", "__eq__", "__repr__", "__str__", "__len__"}
 BARRED = (
     ast.With, ast.AsyncWith, ast.Match, ast.Global, ast.Nonlocal, ast.Yield, ast.YieldFrom, ast.AsyncFunctionDef,
@@ -111,6 +117,60 @@ class Language(unittest.TestCase):
             given = isinstance(node, ast.Name) and not isinstance(node.ctx, ast.Load)
             if given or isinstance(node, (ast.arg, ast.FunctionDef, ast.ClassDef)):
                 self.assertNotIn(named(node)[0], PYTHONS_OWN, where)
+
+    def test_names_of_imports_and_classes_are_given_nothing_else(self):
+        for path, _, tree in files():
+            drawn = [name.name for row in tree.body if isinstance(row, ast.ImportFrom) for name in row.names]
+            kept = set(drawn + [row.name for row in tree.body if isinstance(row, ast.ClassDef)])
+            for node in ast.walk(tree):
+                given = isinstance(node, ast.Name) and not isinstance(node.ctx, ast.Load)
+                if given or isinstance(node, (ast.arg, ast.FunctionDef)):
+                    self.assertNotIn(named(node)[0], kept, f"{path.name}:{node.lineno}")
+
+    def test_imports_are_used_and_come_from_the_file_that_defines_them(self):
+        defined, draws = {}, {}
+        for path, _, tree in files():
+            rows = [row for row in tree.body if isinstance(row, (ast.FunctionDef, ast.ClassDef))]
+            given = [row.targets[0].id for row in tree.body if isinstance(row, ast.Assign)]
+            defined[path.stem] = [row.name for row in rows] + given
+            draws[path.stem] = [row for row in tree.body if isinstance(row, ast.ImportFrom)]
+            used = [node.id for node in ast.walk(tree) if isinstance(node, ast.Name)]
+            for row in draws[path.stem]:
+                for name in row.names:
+                    self.assertIn(name.name, used, path.name)
+        for stem, rows in draws.items():
+            for row in rows:
+                for name in row.names:
+                    self.assertIn(name.name, defined[row.module.partition(".")[2]], stem)
+
+    def test_no_two_files_draw_from_one_another(self):
+        drawn = {}
+        for path, _, tree in files():
+            rows = [row for row in tree.body if isinstance(row, ast.ImportFrom)]
+            drawn[path.stem] = {row.module.partition(".")[2] for row in rows}
+        while drawn:
+            free = [stem for stem, others in drawn.items() if not others & set(drawn)]
+            self.assertNotEqual(free, [], sorted(drawn))
+            for stem in free:
+                del drawn[stem]
+
+    def test_methods_calls_and_refusals(self):
+        own = {node.name for _, node in self.each_node() if isinstance(node, (ast.FunctionDef, ast.ClassDef))}
+        refusals = {node.name for where, node in self.each_node()
+                    if isinstance(node, ast.ClassDef) and where.startswith("errors")}
+        for where, node in self.each_node():
+            if isinstance(node, ast.Call):
+                if isinstance(node.func, ast.Attribute):
+                    self.assertIn(node.func.attr, METHODS | own, where)
+                elif node.func.id in PYTHONS_OWN:
+                    keywords = {keyword.arg for keyword in node.keywords}
+                    self.assertLessEqual(keywords, KEYWORDS.get(node.func.id, set()), where)
+            if isinstance(node, ast.Raise) and node.exc is not None:
+                self.assertIsInstance(node.exc, ast.Call, where)
+                self.assertIn(node.exc.func.id, refusals, where)
+            if isinstance(node, ast.BinOp) and isinstance(node.op, ast.Pow):
+                self.assertIsInstance(node.right, ast.Constant, where)
+            self.assertFalse(isinstance(node, ast.Starred) and isinstance(node.ctx, ast.Load), where)
 
 
 if __name__ == "__main__":

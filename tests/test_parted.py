@@ -4,17 +4,11 @@ import random
 import unittest
 from fractions import Fraction
 
-from samples import BIG, BOXES, SQUARE, WIDE, no_boxes, number, pair
+from samples import (
+    BIG, BOXES, NO_WAYS, NO_WEIGHTS, SQUARE, WAYS, WIDE, lists_with_no_weight, no_boxes, number, pair,
+)
 from weightrooms.errors import NoBox, NoWay, NoWeights, TooMany
 from weightrooms.rooms import area, box_of, is_box, parted, turned
-
-WAYS = ["across", "down"]
-NO_WAYS = ["", "Across", "ACROSS", "across ", " down", "downs", "down\n", "left", "a", "acrossdown"]
-NO_WEIGHT = [0, -1, -BIG, True, False, None, "", "1", b"1", [], [1], (), (1, 1), {}, set(), object()]
-NO_WEIGHTS = [
-    [], (), (1,), (1, 2), None, "", "1", "12", b"12", 0, 1, 3, -1, BIG, True, False,
-    {}, {1: 2}, {1, 2}, range(1, 3), object(), list, SQUARE,
-]
 
 
 def expected(box, way, weights):
@@ -30,16 +24,6 @@ def expected(box, way, weights):
         else:
             top += part[3]
     return boxes
-
-
-def lists_with_no_weight():
-    """Lists one of whose things is no weight, at each place."""
-    for thing in NO_WEIGHT:
-        for many in (1, 2, 3, 40, 41, 60):
-            for at in sorted({0, many // 2, many - 1}):
-                things = [5] * many
-                things[at] = thing
-                yield things
 
 
 class Parted(unittest.TestCase):

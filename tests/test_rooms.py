@@ -7,7 +7,7 @@ from fractions import Fraction
 from samples import BIG, BOXES, HIGH, NO_PARTS, NO_SIDES, PRIME, SQUARE, VAST, WIDE, no_boxes, number, pair, with_part
 from weightrooms.errors import NoBox
 from weightrooms.fracs import fraction
-from weightrooms.rooms import area, box_of, is_box, long_way, shape, turned
+from weightrooms.rooms import area, box_of, is_box, long_way, other_way, shape, turned
 
 
 def some_boxes():
@@ -125,6 +125,10 @@ class Sides(unittest.TestCase):
         self.assertEqual(long_way(box_of(0, 0, BIG, BIG)), "across")
         self.assertEqual(long_way(box_of(0, 0, BIG - 1, BIG)), "down")
         self.assertEqual(long_way(box_of(0, 0, BIG, BIG - 1)), "across")
+
+    def test_other_way(self):
+        self.assertEqual(other_way("across"), "down")
+        self.assertEqual(other_way("down"), "across")
 
     def test_many(self):
         for box in some_boxes():

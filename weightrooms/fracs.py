@@ -63,3 +63,12 @@ def is_less(one, other):
     """Whether the one fraction is less than the other."""
     # Both bottoms are above 0, so multiplying by them keeps the order.
     return one[0] * other[1] < other[0] * one[1]
+
+
+def greatest_of(fractions):
+    """The greatest of a list of one fraction or more."""
+    found = fractions[0]
+    for one in fractions:
+        if is_less(found, one):
+            found = one
+    return found

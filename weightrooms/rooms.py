@@ -33,6 +33,13 @@ def check_way(way):
         raise NoWay("this is no way")
 
 
+def other_way(way):
+    """The one of the two ways that a way is not."""
+    if way == "across":
+        return "down"
+    return "across"
+
+
 def is_weight(thing):
     """Whether a thing, whatever it is, is a weight."""
     return is_whole(thing) and thing >= 1
