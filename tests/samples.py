@@ -2,7 +2,7 @@
 
 from fractions import Fraction
 
-from weightrooms.errors import NoBox, NoWeights, TooMany
+from weightrooms.errors import NoBox, NoKind, NoWeights, TooMany
 
 BIG = 10 ** 30 - 1
 PRIME = 10 ** 29 + 319
@@ -42,6 +42,12 @@ WEIGHTS = [
     [1, 1, 1000, 1, 1, 1, 999, 1], [1, BIG] * 20, [BIG - at * PRIME // 50 for at in range(40)],
     [at % 7 + 1 for at in range(40)], [at * at % 41 + 1 for at in range(40)],
 ]
+
+NO_RULES = [
+    "", " ", "Rows", "ROWS", "row", "rows ", " rows", "across ", " across", "Across", "downs", "half", "halve", "third",
+    "thirds,", "greatest\n", "great", "acrossdown", "across down", "rule", "0", "order", "any", "left", "~",
+]
+NO_KINDS = ["", " ", "Order", "ORDER", "order ", " any", "orders", "an", "anyorder", "all", "across", "rows", "0", "~"]
 
 
 def with_part(parts, at, part):
@@ -153,6 +159,55 @@ def plain_boxes(room, weights, tree):
             boxes.update(plain_boxes((left, top, wide, high * share), weights, part))
             top += high * share
     return boxes
+
+
+def plain_shape(wide, high):
+    """The greater of two sides over the lesser."""
+    return max(wide, high) / min(wide, high)
+
+
+def plain_worst(wide, high, weights, tree):
+    """The worst shape of a room so wide and high, parted by a tree, reckoned plainly."""
+    if not isinstance(tree, tuple):
+        return plain_shape(wide, high)
+    whole = sum(weights[thing] for thing in standing_in(tree))
+    found = Fraction(0)
+    for part in tree[1]:
+        share = Fraction(sum(weights[thing] for thing in standing_in(part)), whole)
+        sides = (wide * share, high) if tree[0] == "across" else (wide, high * share)
+        found = max(found, plain_worst(*sides, weights, part))
+    return found
+
+
+def moved_and_grown(room):
+    """A room of the same shape elsewhere, greater or smaller."""
+    left, top, wide, high = plainly(room)
+    return tuple(pair(part) for part in (left - Fraction(5, 3), top + 11, wide * Fraction(9, 4), high * Fraction(9, 4)))
+
+
+MOST_THINGS = {"order": 6, "any": 5}
+
+
+def small_lists(many):
+    """Lists of so few weights, of all sorts."""
+    lists = [[1] * many, [2 ** at for at in range(many)], [3 ** at for at in range(many)][::-1]]
+    lists += [[(at * 5 + 3) % 7 + 1 for at in range(many)], [1] * (many - 1) + [50]]
+    return lists + [[BIG - at * PRIME for at in range(many)]]
+
+
+def check_kind_refusals(case, ask):
+    """Hold a deed that is asked of a room, weights and a kind to all its refusals, in their order."""
+    for kind in ["order", "any"] + NO_KINDS:
+        check_room_refusals(case, lambda room, weights: ask(room, weights, kind))
+    for kind in NO_KINDS:
+        for many in (1, 2, 5, 6, 7, 8, 40):
+            with case.subTest(kind=kind, many=many), case.assertRaises(NoKind):
+                ask(WIDE, [1] * many, kind)
+    for kind, most in MOST_THINGS.items():
+        ask(WIDE, [1] * most, kind)
+        for many in (most + 1, most + 2, 40):
+            with case.subTest(kind=kind, many=many), case.assertRaises(TooMany):
+                ask(WIDE, [1] * many, kind)
 
 
 def check_room_refusals(case, ask):

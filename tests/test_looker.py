@@ -25,7 +25,7 @@ def whole(*parts):
     return box_of(*parts)
 
 
-def moved_and_grown(box, room):
+def drawn_likewise(box, room):
     """A box drawn in a room of three by three, drawn likewise in another room."""
     left, top, wide, high = plainly(room)
     return tuple(pair(part) for part in (
@@ -85,7 +85,7 @@ class LetBy(unittest.TestCase):
     def test_boxes_wound_about_one(self):
         drawn = [whole(*box) for box in WOUND]
         for room in BOXES + [whole(0, 0, 3, 3)]:
-            boxes = [moved_and_grown(box, room) for box in drawn]
+            boxes = [drawn_likewise(box, room) for box in drawn]
             self.assertIsNone(fault(room, WOUND_WEIGHTS, boxes))
             self.assertIsNone(fault(room, [weight * BIG for weight in WOUND_WEIGHTS], boxes))
             self.assertIsNone(fault(turned(room), WOUND_WEIGHTS, [turned(box) for box in boxes]))
@@ -284,7 +284,8 @@ class HeldAgainstCells(unittest.TestCase):
 
 class Refused(unittest.TestCase):
     def test_in_their_order_whatever_the_boxes_are(self):
-        lists = [[], [None], [SQUARE], [WIDE, WIDE], [SQUARE] * 41, [[[]], "box", True], [nested_deep(81, lambda x: [x])]]
+        lists = [[], [None], [SQUARE], [WIDE, WIDE], [SQUARE] * 41, [[[]], "box", True]]
+        lists.append(nested_deep(82, lambda inner: [inner]))
         for boxes in lists:
             for weights in ([1], [], None, [True], [0], [1] * 41, [1] * 40 + ["1"]):
                 with self.assertRaises(NoBox):

@@ -7,7 +7,7 @@ from fractions import Fraction
 from samples import BIG, BOXES, HIGH, NO_PARTS, NO_SIDES, PRIME, SQUARE, VAST, WIDE, no_boxes, number, pair, with_part
 from weightrooms.errors import NoBox
 from weightrooms.fracs import fraction
-from weightrooms.rooms import area, box_of, is_box, long_way, other_way, shape, turned
+from weightrooms.rooms import area, box_of, cut_in_two, is_box, long_way, other_way, shape, turned
 
 
 def some_boxes():
@@ -129,6 +129,10 @@ class Sides(unittest.TestCase):
     def test_other_way(self):
         self.assertEqual(other_way("across"), "down")
         self.assertEqual(other_way("down"), "across")
+
+    def test_cut_in_two(self):
+        self.assertEqual(cut_in_two(box_of(0, 0, 6, 2), [1, 1, 4], 1), [box_of(0, 0, 1, 2), box_of(1, 0, 5, 2)])
+        self.assertEqual(cut_in_two(box_of(0, 0, 2, 6), [1, 1, 4], 2), [box_of(0, 0, 2, 2), box_of(0, 2, 2, 4)])
 
     def test_many(self):
         for box in some_boxes():

@@ -4,22 +4,17 @@ import random
 import unittest
 from fractions import Fraction
 
-from samples import BIG, BOXES, PRIME, SQUARE, WEIGHTS, WIDE, check_room_refusals, number, standing_in
+from samples import BIG, BOXES, PRIME, SQUARE, WEIGHTS, WIDE, check_room_refusals, number, plain_shape, standing_in
 from weightrooms.looker import fault
 from weightrooms.rooms import box_of, turned
 from weightrooms.rows import greatest_tree, rows_tree
 from weightrooms.trees import boxes_by, is_tree
 
 
-def farther(one, other):
-    """The greater of two sides over the lesser."""
-    return max(one, other) / min(one, other)
-
-
 def worst_in_row(long, short, row, whole):
     """The worst shape of a row of so many weights, across the short side of a room."""
     thick = long * sum(row) / whole
-    return max(farther(thick, short * weight / sum(row)) for weight in row)
+    return max(plain_shape(thick, short * weight / sum(row)) for weight in row)
 
 
 def plain_rows(wide, high, things):

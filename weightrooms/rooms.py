@@ -119,3 +119,8 @@ def parted(box, way, weights):
     if way == "across":
         return [(begin, top, length, high) for begin, length in shares(left, wide, weights)]
     return [(left, begin, wide, length) for begin, length in shares(top, high, weights)]
+
+
+def cut_in_two(room, weights, many):
+    """The two parts of a room, cut by its long way: of the first so many weights, and of the others."""
+    return parted(room, long_way(room), [sum(weights[:many]), sum(weights[many:])])

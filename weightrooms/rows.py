@@ -1,7 +1,7 @@
 """The rules of rows: the things row by row, each row as long as its worst shape doesn't grow."""
 
 from weightrooms.fracs import greatest_of, is_less
-from weightrooms.rooms import check_box, check_weights, long_way, other_way, parted, shape
+from weightrooms.rooms import check_box, check_weights, cut_in_two, long_way, other_way, parted, shape
 
 
 def rows_tree(room, weights):
@@ -30,9 +30,8 @@ def tree_of_rows(room, numbers, weights):
     tree = tree_of_row(room, numbers[:many])
     if many == len(numbers):
         return tree
-    way = long_way(room)
-    rest = parted(room, way, [sum(weights[:many]), sum(weights[many:])])[1]
-    return (way, (tree, tree_of_rows(rest, numbers[many:], weights[many:])))
+    rest = cut_in_two(room, weights, many)[1]
+    return (long_way(room), (tree, tree_of_rows(rest, numbers[many:], weights[many:])))
 
 
 def tree_of_row(room, numbers):
@@ -57,8 +56,8 @@ def row_length(room, weights):
 
 def worst_of_row(room, weights, many):
     """The greatest shape in the row that so many first things make."""
-    way = long_way(room)
     part = room
     if many < len(weights):
-        part = parted(room, way, [sum(weights[:many]), sum(weights[many:])])[0]
-    return greatest_of([shape(box) for box in parted(part, other_way(way), weights[:many])])
+        part = cut_in_two(room, weights, many)[0]
+    boxes = parted(part, other_way(long_way(room)), weights[:many])
+    return greatest_of([shape(box) for box in boxes])
