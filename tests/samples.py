@@ -1,5 +1,6 @@
 """Things that several tests hand in, and a plain reckoning to hold answers against."""
 
+import random
 from fractions import Fraction
 
 from weightrooms.errors import NoBox, NoKind, NoWeights, TooMany
@@ -183,6 +184,18 @@ def moved_and_grown(room):
     """A room of the same shape elsewhere, greater or smaller."""
     left, top, wide, high = plainly(room)
     return tuple(pair(part) for part in (left - Fraction(5, 3), top + 11, wide * Fraction(9, 4), high * Fraction(9, 4)))
+
+
+def rooms_and_weights(rooms, seed, many):
+    """Each of the rooms with each list of weights, and so many small rooms with lists as the die falls."""
+    for room in rooms:
+        for weights in WEIGHTS:
+            yield room, weights
+    dice = random.Random(seed)
+    for _ in range(many):
+        most = dice.choice((1, 2, 6, 40, BIG))
+        sides = [(dice.randint(1, 12), 1), (dice.randint(1, 12), 1)]
+        yield ((1, 2), (0, 1), *sides), [dice.randint(1, most) for _ in range(dice.randint(1, 14))]
 
 
 MOST_THINGS = {"order": 6, "any": 5}

@@ -7,6 +7,7 @@ from samples import (
     BIG, BOXES, MOST_THINGS, PRIME, SQUARE, VAST, WIDE, check_kind_refusals, moved_and_grown, number, pair,
     plain_worst, small_lists, standing_in,
 )
+from weightrooms.errors import NoKind
 from weightrooms.least import least_worst
 from weightrooms.rooms import box_of, turned
 from weightrooms.rules import RULES, by_rule
@@ -168,6 +169,11 @@ class Handed(unittest.TestCase):
 
     def test_refusals_in_their_order(self):
         check_kind_refusals(self, least_worst)
+
+    def test_what_is_no_text_is_no_kind(self):
+        for kind in (None, 0, True, [], ["any"], ("order",), {}, b"any"):
+            with self.assertRaises(NoKind):
+                least_worst(WIDE, [1, 2], kind)
 
 
 if __name__ == "__main__":

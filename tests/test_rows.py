@@ -1,14 +1,17 @@
 """Points 13 and 14: the trees by rows, in order and by falling weights."""
 
-import random
 import unittest
 from fractions import Fraction
 
-from samples import BIG, BOXES, PRIME, SQUARE, WEIGHTS, WIDE, check_room_refusals, number, plain_shape, standing_in
+from samples import (
+    BIG, BOXES, PRIME, SQUARE, WEIGHTS, WIDE, check_room_refusals, number, plain_shape, rooms_and_weights, standing_in,
+)
 from weightrooms.looker import fault
 from weightrooms.rooms import box_of, turned
 from weightrooms.rows import greatest_tree, rows_tree
 from weightrooms.trees import boxes_by, is_tree
+
+ROOMS = BOXES + [box_of(0, 0, 6, 4), box_of(-3, 7, 4, 6), box_of(0, 0, 1, 100), box_of(0, 0, BIG, BIG)]
 
 
 def worst_in_row(long, short, row, whole):
@@ -48,15 +51,7 @@ def expected_greatest(room, weights):
 
 def some_asked():
     """Rooms and lists of weights, of all sorts."""
-    for room in BOXES + [box_of(0, 0, 6, 4), box_of(-3, 7, 4, 6), box_of(0, 0, 1, 100), box_of(0, 0, BIG, BIG)]:
-        for weights in WEIGHTS:
-            yield room, weights
-    dice = random.Random(13)
-    for _ in range(250):
-        most = dice.choice((2, 5, 30, BIG))
-        sides = [(dice.randint(1, 12), 1), (dice.randint(1, 12), 1)]
-        weights = [dice.randint(1, most) for _ in range(dice.randint(1, 14))]
-        yield ((0, 1), (1, 3), *sides), weights
+    return rooms_and_weights(ROOMS, 13, 250)
 
 
 class Rows(unittest.TestCase):

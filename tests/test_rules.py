@@ -1,12 +1,11 @@
 """Points 11, 12 and 15: the rules, by halves and by thirds among them; and point 4 of all six."""
 
-import random
 import unittest
 from fractions import Fraction
 
 from samples import (
     BIG, BOXES, HIGH, NO_RULES, PRIME, SQUARE, WEIGHTS, WIDE, check_room_refusals, moved_and_grown, no_boxes, number,
-    plain_boxes, plainly, standing_in,
+    plain_boxes, plainly, rooms_and_weights, standing_in,
 )
 from weightrooms.errors import NoBox, NoRule, NoWeights, TooMany
 from weightrooms.looker import fault
@@ -22,14 +21,7 @@ ROOMS = BOXES + [box_of(0, 0, 1, 50), box_of(3, -2, 6, 4), box_of(0, 0, BIG, BIG
 
 def some_asked():
     """Rooms and lists of weights, of all sorts."""
-    for room in ROOMS:
-        for weights in WEIGHTS:
-            yield room, weights
-    dice = random.Random(11)
-    for _ in range(150):
-        most = dice.choice((1, 2, 6, 40, BIG))
-        sides = [(dice.randint(1, 9), 1), (dice.randint(1, 9), 1)]
-        yield ((1, 2), (0, 1), *sides), [dice.randint(1, most) for _ in range(dice.randint(1, 12))]
+    return rooms_and_weights(ROOMS, 11, 150)
 
 
 def plain_cuts(wide, high, things, count):
@@ -243,6 +235,11 @@ class Refused(unittest.TestCase):
                     for weights in ([1, 2], [], None, [0], [True], [1] * 41):
                         with self.subTest(rule=rule), self.assertRaises(NoRule):
                             deed(rule, room, weights)
+
+    def test_what_is_no_text_is_no_rule(self):
+        for rule in (None, 0, True, [], ["rows"], ("rows",), {}, b"rows"):
+            with self.assertRaises(NoRule):
+                rule_tree(rule, None, None)
 
     def test_rooms_and_weights_in_their_order(self):
         for deed in (halves_tree, thirds_tree):

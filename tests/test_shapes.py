@@ -6,7 +6,7 @@ from fractions import Fraction
 
 from samples import (
     BIG, BOXES, HIGH, NO_RULES, PRIME, SQUARE, WEIGHTS, WIDE, check_room_refusals, mixed, moved_and_grown, number,
-    pair, plain_shape, plainly, some_tree,
+    pair, plain_shape, plainly, rooms_and_weights, some_tree,
 )
 from weightrooms.errors import NoRule
 from weightrooms.rooms import area, box_of, shape, turned
@@ -19,14 +19,7 @@ ROOMS = BOXES + [box_of(0, 0, 1, 50), box_of(3, -2, 6, 4), box_of(0, 0, BIG, BIG
 
 def some_asked():
     """Rooms and lists of weights, of all sorts."""
-    for room in ROOMS:
-        for weights in WEIGHTS:
-            yield room, weights
-    dice = random.Random(18)
-    for _ in range(200):
-        most = dice.choice((1, 2, 6, 40, BIG))
-        sides = [(dice.randint(1, 9), 1), (dice.randint(1, 9), 1)]
-        yield ((1, 2), (0, 1), *sides), [dice.randint(1, most) for _ in range(dice.randint(1, 12))]
+    return rooms_and_weights(ROOMS, 18, 200)
 
 
 def expected_floor(room, weights):

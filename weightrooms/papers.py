@@ -14,7 +14,7 @@ def first_cuts(numbers, kind):
 
 def paper_of(room, weights, kind):
     """A paper that stands with the least worst shape as its bound."""
-    check_asked(room, weights, kind)
+    # What a paper is not told of is refused as the least worst is.
     bound = least_worst(room, weights, kind)[0]
     return barring(room, list(range(len(weights))), (weights, kind, bound))
 

@@ -10,7 +10,7 @@ RULES = ("across", "down", "halves", "rows", "greatest", "thirds")
 
 def check_rule(rule):
     """Refuse what is no rule."""
-    if not isinstance(rule, str) or rule not in RULES:
+    if rule not in RULES:
         raise NoRule("this is no rule")
 
 
@@ -57,14 +57,14 @@ def thirds_tree(room, weights):
     return tree_in_two(room, numbers, [weights[number] for number in numbers], fewest_to_third)
 
 
-def tree_in_two(room, numbers, weights, count):
-    """The tree of things that are cut in two on and on; count tells of weights how many are the first."""
+def tree_in_two(room, numbers, weights, how_many):
+    """The tree of things that are cut in two on and on; how_many tells of weights how many are the first."""
     if len(numbers) == 1:
         return numbers[0]
-    many = count(weights)
+    many = how_many(weights)
     first, second = cut_in_two(room, weights, many)
-    ahead = tree_in_two(first, numbers[:many], weights[:many], count)
-    behind = tree_in_two(second, numbers[many:], weights[many:], count)
+    ahead = tree_in_two(first, numbers[:many], weights[:many], how_many)
+    behind = tree_in_two(second, numbers[many:], weights[many:], how_many)
     return (long_way(room), (ahead, behind))
 
 
