@@ -50,6 +50,12 @@ NO_RULES = [
 ]
 NO_KINDS = ["", " ", "Order", "ORDER", "order ", " any", "orders", "an", "anyorder", "all", "across", "rows", "0", "~"]
 
+NO_NAMES = [
+    "", " ", "A", "Z", "aB", "Ab", "a1", "1", "0", "a b", " a", "a ", "a-b", "a_b", "`", "{", "~", "a.", "abcdefghi",
+    "abcdefgh ", "a" * 9, "a" * 40, None, True, False, 0, 1, BIG, b"a", b"", [], ["a"], ("a",), (), {}, {"a": 1},
+    set(), object(), str,
+]
+
 
 def with_part(parts, at, part):
     """The parts as a tuple, another one at the place."""
@@ -178,6 +184,57 @@ def plain_worst(wide, high, weights, tree):
         sides = (wide * share, high) if tree[0] == "across" else (wide, high * share)
         found = max(found, plain_worst(*sides, weights, part))
     return found
+
+
+def renamed(tree, names):
+    """The tree with other things in the place of its numbers."""
+    if not isinstance(tree, tuple):
+        return names[tree]
+    return (tree[0], tuple(renamed(part, names) for part in tree[1]))
+
+
+def steps_to(tree, thing):
+    """The ways and places from the top of a tree to a thing, or None."""
+    if not isinstance(tree, tuple):
+        return [] if tree == thing else None
+    for at, part in enumerate(tree[1]):
+        rest = steps_to(part, thing)
+        if rest is not None:
+            return [(tree[0], at)] + rest
+    return None
+
+
+def plain_relation(tree, one, other):
+    """The relation, by the first step at which the two things part."""
+    for (way, at), (_, beyond) in zip(steps_to(tree, one), steps_to(tree, other)):
+        if at != beyond:
+            return {"across": ("left", "right"), "down": ("above", "below")}[way][at > beyond]
+    return None
+
+
+def plain_cuts(wide, high, things, count):
+    """The tree of things (number, weight), cut in two by the long way, count telling the first ones."""
+    if len(things) == 1:
+        return things[0][0]
+    many = count([weight for _, weight in things])
+    share = Fraction(sum(weight for _, weight in things[:many]), sum(weight for _, weight in things))
+    if high > wide:
+        rooms = (wide, high * share), (wide, high * (1 - share))
+    else:
+        rooms = (wide * share, high), (wide * (1 - share), high)
+    trees = plain_cuts(*rooms[0], things[:many], count), plain_cuts(*rooms[1], things[many:], count)
+    return ("down" if high > wide else "across", trees)
+
+
+def first_third(weights):
+    """The count of the first ones by thirds."""
+    return [k for k in range(1, len(weights)) if sum(weights[:k]) * 3 >= sum(weights)][0]
+
+
+def plain_thirds(wide, high, weights):
+    """The tree by thirds of a room so wide and high, reckoned plainly."""
+    things = sorted(enumerate(weights), key=lambda thing: (-thing[1], thing[0]))
+    return plain_cuts(wide, high, things, first_third)
 
 
 def moved_and_grown(room):

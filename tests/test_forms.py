@@ -4,19 +4,14 @@ import itertools
 import random
 import unittest
 
-from samples import BIG, BOXES, WAYS, chain, chain_back, mixed, some_tree, standing_in
+from samples import (
+    BIG, BOXES, WAYS, chain, chain_back, mixed, plain_relation, renamed, some_tree, standing_in,
+)
 from weightrooms.errors import Unknown
 from weightrooms.rooms import turned
 from weightrooms.trees import boxes_by, is_tree, plain_form, relation, turned_tree
 
 NAMES = ["across", "down", "a", "left", "", "0", "1", "across(", "b b", "~", "above", "zz"]
-
-
-def renamed(tree, names):
-    """The tree with other things in the place of its numbers."""
-    if not isinstance(tree, tuple):
-        return names[tree]
-    return (tree[0], tuple(renamed(part, names) for part in tree[1]))
 
 
 def some_trees(seed, most_things=14):
@@ -40,25 +35,6 @@ def ways_within(tree):
             found.append((tree[0], part[0]))
         found += ways_within(part)
     return found
-
-
-def steps_to(tree, thing):
-    """The ways and places from the top of a tree to a thing, or None."""
-    if not isinstance(tree, tuple):
-        return [] if tree == thing else None
-    for at, part in enumerate(tree[1]):
-        rest = steps_to(part, thing)
-        if rest is not None:
-            return [(tree[0], at)] + rest
-    return None
-
-
-def plain_relation(tree, one, other):
-    """The relation, by the first step at which the two things part."""
-    for (way, at), (_, beyond) in zip(steps_to(tree, one), steps_to(tree, other)):
-        if at != beyond:
-            return {"across": ("left", "right"), "down": ("above", "below")}[way][at > beyond]
-    return None
 
 
 class PlainForm(unittest.TestCase):

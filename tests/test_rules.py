@@ -1,11 +1,10 @@
 """Points 11, 12 and 15: the rules, by halves and by thirds among them; and point 4 of all six."""
 
 import unittest
-from fractions import Fraction
 
 from samples import (
     BIG, BOXES, HIGH, NO_RULES, PRIME, SQUARE, WEIGHTS, WIDE, check_room_refusals, moved_and_grown, no_boxes, number,
-    plain_boxes, plainly, rooms_and_weights, standing_in,
+    plain_boxes, plain_cuts, plain_thirds, plainly, rooms_and_weights, standing_in,
 )
 from weightrooms.errors import NoBox, NoRule, NoWeights, TooMany
 from weightrooms.looker import fault
@@ -24,37 +23,13 @@ def some_asked():
     return rooms_and_weights(ROOMS, 11, 150)
 
 
-def plain_cuts(wide, high, things, count):
-    """The tree of things (number, weight), cut in two by the long way, count telling the first ones."""
-    if len(things) == 1:
-        return things[0][0]
-    many = count([weight for _, weight in things])
-    share = Fraction(sum(weight for _, weight in things[:many]), sum(weight for _, weight in things))
-    if high > wide:
-        rooms = (wide, high * share), (wide, high * (1 - share))
-    else:
-        rooms = (wide * share, high), (wide * (1 - share), high)
-    trees = plain_cuts(*rooms[0], things[:many], count), plain_cuts(*rooms[1], things[many:], count)
-    return ("down" if high > wide else "across", trees)
-
-
 def first_half(weights):
     """The count of the first ones by halves: the least by how far from half, then by itself."""
     return min((abs(sum(weights[:k]) - sum(weights[k:])), k) for k in range(1, len(weights)))[1]
 
 
-def first_third(weights):
-    """The count of the first ones by thirds."""
-    return [k for k in range(1, len(weights)) if sum(weights[:k]) * 3 >= sum(weights)][0]
-
-
 def expected_halves(room, weights):
     return plain_cuts(number(room[2]), number(room[3]), list(enumerate(weights)), first_half)
-
-
-def expected_thirds(room, weights):
-    things = sorted(enumerate(weights), key=lambda thing: (-thing[1], thing[0]))
-    return plain_cuts(number(room[2]), number(room[3]), things, first_third)
 
 
 class Rules(unittest.TestCase):
@@ -171,7 +146,7 @@ class Thirds(unittest.TestCase):
 
     def test_held_against_a_plain_reckoning(self):
         for room, weights in some_asked():
-            self.assertEqual(thirds_tree(room, weights), expected_thirds(room, weights), (room, weights))
+            self.assertEqual(thirds_tree(room, weights), plain_thirds(*plainly(room)[2:], weights), (room, weights))
 
 
 class ThePromise(unittest.TestCase):

@@ -58,14 +58,18 @@ def boxes_by(room, weights, tree):
 
 
 def place(room, weights, tree, placed):
-    """Put the box of each number in a tree that parts a room into the dict placed."""
+    """Put the box of each thing in a tree that parts a room into the dict placed."""
     if not isinstance(tree, tuple):
         placed[tree] = room
         return
-    way, trees = tree
-    sums = [sum([weights[number] for number in things_in(part)]) for part in trees]
-    for part, box in zip(trees, parted(room, way, sums)):
+    for part, box in zip(tree[1], parts_of(room, weights, tree)):
         place(box, weights, part, placed)
+
+
+def parts_of(room, weights, tree):
+    """The parts to which the first cuts of a tree part a room, one for each of its trees."""
+    way, trees = tree
+    return parted(room, way, [sum([weights[thing] for thing in things_in(part)]) for part in trees])
 
 
 def plain_form(tree):
