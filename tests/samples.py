@@ -55,6 +55,11 @@ NO_NAMES = [
     "abcdefgh ", "a" * 9, "a" * 40, None, True, False, 0, 1, BIG, b"a", b"", [], ["a"], ("a",), (), {}, {"a": 1},
     set(), object(), str,
 ]
+# As many names as a keeper or a nest may have.
+FORTY = [first + second for first in "abcd" for second in "qwertyuiop"]
+
+# Five boxes wound about the one in the middle, in a room of three by three: no cut goes through the whole room.
+WOUND = [(0, 0, 2, 1), (2, 0, 1, 2), (1, 2, 2, 1), (0, 1, 1, 2), (1, 1, 1, 1)]
 
 
 def with_part(parts, at, part):
@@ -235,6 +240,14 @@ def plain_thirds(wide, high, weights):
     """The tree by thirds of a room so wide and high, reckoned plainly."""
     things = sorted(enumerate(weights), key=lambda thing: (-thing[1], thing[0]))
     return plain_cuts(wide, high, things, first_third)
+
+
+def drawn_likewise(parts, room):
+    """A box of four numbers, drawn in a room of three by three, drawn likewise in another room."""
+    left, top, wide, high = plainly(room)
+    return tuple(pair(part) for part in (
+        left + parts[0] * wide / 3, top + parts[1] * high / 3, parts[2] * wide / 3, parts[3] * high / 3,
+    ))
 
 
 def moved_and_grown(room):

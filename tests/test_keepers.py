@@ -6,8 +6,8 @@ import unittest
 from fractions import Fraction
 
 from samples import (
-    BIG, HIGH, NO_NAMES, NO_WEIGHT, SQUARE, VAST, WIDE, no_boxes, number, plain_boxes, plain_relation, plain_shape,
-    plain_thirds, plainly, renamed, standing_in,
+    BIG, FORTY, HIGH, NO_NAMES, NO_WEIGHT, SQUARE, VAST, WIDE, no_boxes, number, plain_boxes, plain_relation,
+    plain_shape, plain_thirds, plainly, renamed, standing_in,
 )
 from weightrooms.errors import NoBox, NoName, NoWeights, Taken, TooMany, Unknown
 from weightrooms.keepers import Keeper
@@ -17,7 +17,6 @@ from weightrooms.rules import thirds_tree
 from weightrooms.shapes import bound_of
 from weightrooms.trees import is_tree
 
-FORTY = [first + second for first in "abcd" for second in "qwertyuiop"]
 # Of whatever is handed in as a name: none of these is there.
 NOT_THERE = NO_NAMES + ["b", "aa", "z", "abcdefgh", True, 0, -1, (), ("a",), ["a"], {"a": 1}, [["a"]], set(), object()]
 

@@ -172,6 +172,59 @@ class Language(unittest.TestCase):
                 self.assertIsInstance(node.right, ast.Constant, where)
             self.assertFalse(isinstance(node, ast.Starred) and isinstance(node.ctx, ast.Load), where)
 
+    def test_values_and_methods_of_classes(self):
+        nodes = list(self.each_node())
+        kinds = [node for _, node in nodes if isinstance(node, ast.ClassDef)]
+        methods = {row.name for kind in kinds for row in kind.body if isinstance(row, ast.FunctionDef)} - UNDERSCORED
+        called = {id(node.func) for _, node in nodes if isinstance(node, ast.Call)}
+        given, asked = set(), {}
+        for where, node in nodes:
+            if isinstance(node, ast.Attribute) and id(node) not in called:
+                if isinstance(node.ctx, ast.Load):
+                    asked[node.attr] = where
+                else:
+                    self.assertIsInstance(node.value, ast.Name, where)
+                    given.add(node.attr)
+        self.assertEqual(methods & given, set())
+        for name, where in asked.items():
+            self.assertIn(name, given, where)
+        owned = {name for kind in (str, int, list, dict, set, bytes, tuple) for name in dir(kind)}
+        self.assertEqual((methods | given) & owned, set())
+        for kind in kinds:
+            rows = [row.name for row in kind.body if isinstance(row, ast.FunctionDef)]
+            self.assertEqual(len(rows), len(set(rows)), kind.name)
+            self.assertLessEqual(len(kind.bases), 1, kind.name)
+            for row in kind.body:
+                plain = isinstance(row, ast.FunctionDef) or isinstance(row, ast.Expr) and row is kind.body[0]
+                self.assertTrue(plain, kind.name)
+
+    def test_handlers_take_own_refusals_by_name(self):
+        for where, node in self.each_node():
+            if isinstance(node, ast.Try):
+                self.assertEqual(node.finalbody, [], where)
+            if isinstance(node, ast.ExceptHandler):
+                self.assertIsInstance(node.type, ast.Name, where)
+                self.assertRegex(node.type.id, r"\A(No[A-Z]|TooMany|Taken|Unknown)", where)
+
+    def test_tops_hold_plain_values_that_are_only_read(self):
+        for path, _, tree in files():
+            kept = {row.targets[0].id: row.value for row in tree.body if isinstance(row, ast.Assign)}
+            for name, value in kept.items():
+                inner = [node for node in ast.walk(value) if node is not value]
+                self.assertFalse(any(isinstance(node, (ast.List, ast.Dict, ast.Call)) for node in inner), name)
+            for node in ast.walk(tree):
+                if isinstance(node, ast.Subscript) and not isinstance(node.ctx, ast.Load):
+                    self.assertNotIn(getattr(node.value, "id", ""), kept, f"{path.name}:{node.lineno}")
+                if isinstance(node, ast.Call) and isinstance(node.func, ast.Attribute):
+                    self.assertNotIn(getattr(node.func.value, "id", ""), kept, f"{path.name}:{node.lineno}")
+
+    def test_what_is_walked_on_the_spot_is_not_kept(self):
+        walked = {"zip", "enumerate", "reversed", "range"}
+        for where, node in self.each_node():
+            if isinstance(node, (ast.Assign, ast.Return)) and isinstance(node.value, ast.Call):
+                self.assertNotIn(getattr(node.value.func, "id", ""), walked, where)
+                self.assertNotIn(getattr(node.value.func, "attr", ""), {"items", "keys", "values"}, where)
+
 
 if __name__ == "__main__":
     unittest.main()

@@ -5,8 +5,8 @@ import random
 import unittest
 
 from samples import (
-    BIG, BOXES, HIGH, PRIME, SQUARE, VAST, WEIGHTS, WIDE, chain, chain_back, check_room_refusals, mixed, nested_deep,
-    no_boxes, number, pair, plain_boxes, plainly, some_tree, with_part,
+    BIG, BOXES, HIGH, PRIME, SQUARE, VAST, WEIGHTS, WIDE, WOUND, chain, chain_back, check_room_refusals,
+    drawn_likewise, mixed, nested_deep, no_boxes, number, pair, plain_boxes, plainly, some_tree, with_part,
 )
 from weightrooms.errors import NoBox, NoWeights, TooMany
 from weightrooms.fracs import fraction
@@ -14,8 +14,6 @@ from weightrooms.looker import fault
 from weightrooms.rooms import box_of, parted, turned
 from weightrooms.trees import boxes_by
 
-# Five boxes wound about the one in the middle: no cut goes through the whole room.
-WOUND = [(0, 0, 2, 1), (2, 0, 1, 2), (1, 2, 2, 1), (0, 1, 1, 2), (1, 1, 1, 1)]
 WOUND_WEIGHTS = [2, 2, 2, 2, 1]
 SIX = box_of(0, 0, 3, 2)
 
@@ -23,15 +21,6 @@ SIX = box_of(0, 0, 3, 2)
 def whole(*parts):
     """A box of four whole numbers."""
     return box_of(*parts)
-
-
-def drawn_likewise(box, room):
-    """A box drawn in a room of three by three, drawn likewise in another room."""
-    left, top, wide, high = plainly(room)
-    return tuple(pair(part) for part in (
-        left + number(box[0]) * wide / 3, top + number(box[1]) * high / 3,
-        number(box[2]) * wide / 3, number(box[3]) * high / 3,
-    ))
 
 
 def drawn_by(room, weights, tree):
@@ -83,9 +72,8 @@ class LetBy(unittest.TestCase):
             self.assertIsNone(fault(room, [BIG], [room]))
 
     def test_boxes_wound_about_one(self):
-        drawn = [whole(*box) for box in WOUND]
         for room in BOXES + [whole(0, 0, 3, 3)]:
-            boxes = [drawn_likewise(box, room) for box in drawn]
+            boxes = [drawn_likewise(box, room) for box in WOUND]
             self.assertIsNone(fault(room, WOUND_WEIGHTS, boxes))
             self.assertIsNone(fault(room, [weight * BIG for weight in WOUND_WEIGHTS], boxes))
             self.assertIsNone(fault(turned(room), WOUND_WEIGHTS, [turned(box) for box in boxes]))

@@ -30,7 +30,7 @@ def boxes_in(room, weights, tree):
     placed = {}
     if tree is not None:
         place(room, weights, tree, placed)
-    return {name: placed[name] for name in sorted(placed)}
+    return placed
 
 
 def first_above(most, boxes):
@@ -162,7 +162,7 @@ class Keeper:
 
     def weights(self):
         """The weights by names."""
-        return {name: self.kept[name] for name in sorted(self.kept)}
+        return dict(self.kept)
 
     def check_there(self, name):
         """Refuse, whatever it is, what is no name of a thing that is there."""
